@@ -1,6 +1,7 @@
 """Those rules of LANGUAGE.md for the package that are told from a file's text at once."""
 
 import ast
+import builtins
 import pathlib
 import re
 import unittest
@@ -47,6 +48,28 @@ class LanguageTest(unittest.TestCase):
                 if isinstance(node, ast.ImportFrom):
                     self.assertRegex(node.module, r"^(trialcopies\.[a-z_]+|heapq|math|itertools|collections)$", path.name)
                     self.assertEqual(node.level, 0)
+
+    def test_names_have_one_meaning(self):
+        # No parameter or variable has the name of a builtin, or of an import, a class or a function of its file.
+        for path in SOURCES:
+            tree = ast.parse(path.read_text(encoding="utf-8"))
+            own = {alias.name for node in tree.body if isinstance(node, ast.ImportFrom) for alias in node.names}
+            own |= {node.name for node in tree.body if isinstance(node, (ast.ClassDef, ast.FunctionDef))}
+            names = [node for node in ast.walk(tree) if isinstance(node, ast.Name)]
+            used = {node.id for node in names if isinstance(node.ctx, ast.Store)}
+            used |= {node.arg for node in ast.walk(tree) if isinstance(node, ast.arg)}
+            self.assertEqual(used & own, set(), path.name)
+            self.assertEqual((used | own) & set(dir(builtins)), set(), path.name)
+
+    def test_no_name_is_a_method_and_an_attribute(self):
+        methods, attributes = set(), set()
+        for path in SOURCES:
+            for node in ast.walk(ast.parse(path.read_text(encoding="utf-8"))):
+                if isinstance(node, ast.ClassDef):
+                    methods |= {row.name for row in node.body if isinstance(row, ast.FunctionDef)}
+                if isinstance(node, ast.Attribute) and isinstance(node.ctx, ast.Store):
+                    attributes.add(node.attr)
+        self.assertEqual(methods & attributes, set())
 
     def test_names_and_values_that_are_not_used(self):
         for path in SOURCES:

@@ -1,45 +1,57 @@
 """How many steps and registers it takes to build scripts anew."""
 
-from trialcopies.scripts import common_steps, settings_at
+from trialcopies.scripts import common_steps, position_of, settings_at
+
+
+class Branch:
+    """Beginnings of the same scripts, one step after another, from one fork or end to the next.
+
+    All of them have one level, so that only forks and ends have to be visited.
+    """
+
+    def __init__(self, path, start, end, ended, longer):
+        # The path is one of these scripts; the branch is its steps from start up to end.
+        self.path = path
+        self.start = start
+        self.end = end
+        # The indices of the scripts that end with this branch, and the branches that go on.
+        self.ended = ended
+        self.longer = longer
+        self.steps = end - start + sum([branch.steps for branch in longer])
+        self.level = fork_level([branch.level for branch in longer])
 
 
 def rebuild_needs(scripts):
     """Return (steps, registers): how many steps have to be made, in how many registers."""
-    total = 0
-    registers = 1
-    for branch in branches(scripts, 0):
-        steps, level = branch_needs(branch, 0)
-        total += steps
-        registers = max(registers, level)
-    return total, registers
+    firsts = first_branches(scripts)
+    steps = sum([branch.steps for branch in firsts])
+    return steps, max([1, *[branch.level for branch in firsts]])
 
 
-def branches(scripts, position):
-    """Return the lists of those scripts that make the same step at the position, ascending.
+def first_branches(scripts):
+    """Return the branches of all first steps, by ascending seeds and settings."""
+    return branches(scripts, list(range(len(scripts))), 0)
+
+
+def branches(scripts, indices, position):
+    """Return the branches behind the position of the scripts with these indices, ascending.
 
     The scripts of one seed have all steps before this position in common.
     """
     groups = {}
-    for script in scripts:
-        settings = settings_at(script, position)
+    for index in indices:
+        settings = settings_at(scripts[index], position)
         if settings is not None:
-            groups.setdefault((script[0], settings), []).append(script)
-    return [groups[key] for key in sorted(groups)]
+            groups.setdefault((scripts[index][0], settings), []).append(index)
+    return [grown(scripts, groups[key], position) for key in sorted(groups)]
 
 
-def branch_needs(branch, start):
-    """Return the steps behind start that the scripts of a branch need, and the level of the first.
-
-    All steps up to the next fork or end have one level, so only forks and ends are visited.
-    """
-    end = min([common_steps(branch[0], script) for script in branch])
-    total = end - start
-    levels = []
-    for longer in branches(branch, end):
-        steps, level = branch_needs(longer, end)
-        total += steps
-        levels.append(level)
-    return total, fork_level(levels)
+def grown(scripts, indices, start):
+    """Return the branch of the scripts with these indices, whose step at start is the same."""
+    path = scripts[indices[0]]
+    end = min([common_steps(path, scripts[index]) for index in indices])
+    ended = [index for index in indices if position_of(scripts[index]) == end]
+    return Branch(path, start, end, ended, branches(scripts, indices, end))
 
 
 def fork_level(levels):

@@ -68,6 +68,28 @@ def beginning(script, steps):
     return normal((seed, tuple(kept)))
 
 
+def lengthened(script, rate, margin, steps):
+    """Return a normal script with so many steps more, with these settings; normal, too."""
+    seed, stretches = script
+    if steps < 1:
+        return script
+    if stretches and stretches[-1][:2] == (rate, margin):
+        return seed, (*stretches[:-1], (rate, margin, stretches[-1][2] + steps))
+    return seed, (*stretches, (rate, margin, steps))
+
+
+def stretches_between(script, start, end):
+    """Return the stretches of the steps from start up to end, none twice with the same settings."""
+    found = []
+    position = 0
+    for rate, margin, steps in normal(script)[1]:
+        many = min(end, position + steps) - max(start, position)
+        if many > 0:
+            found.append((rate, margin, many))
+        position += steps
+    return found
+
+
 def common_steps(first, second):
     """Return the position of the longest common beginning, 0 for different seeds."""
     if first[0] != second[0]:
